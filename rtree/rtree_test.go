@@ -322,3 +322,14 @@ func TestP34_2Stop(t *testing.T) {
 		}
 	}
 }
+
+func TestP34_Fan(t *testing.T) {
+	for fan := 2; fan <= 16; fan++ {
+		if got := must(t, nil, fan).Fan(); got != fan {
+			t.Errorf("Fan is %d, not %d", got, fan)
+		}
+	}
+	if got := (*Tree)(nil).Fan(); got != 0 {
+		t.Errorf("Fan of no tree is %d", got)
+	}
+}
