@@ -279,3 +279,26 @@ func TestP40_Aliasing(t *testing.T) {
 		t.Errorf("the hierarchy became %s", state())
 	}
 }
+
+func TestP40_2Edge(t *testing.T) {
+	r := rand.New(rand.NewSource(9))
+	for range 200 {
+		g, l := random(r)
+		h := must(t, g, l)
+		edges := h.Edges()
+		for e, want := range edges {
+			if got, ok := h.Edge(e); got != want || !ok {
+				t.Fatalf("Edge(%d) is %v, %v, not %v", e, got, ok, want)
+			}
+		}
+		for _, e := range []int{-1, len(edges), math.MinInt, math.MaxInt} {
+			if got, ok := h.Edge(e); got != (api.Arc{}) || ok {
+				t.Fatalf("Edge(%d) of %d is %v, %v", e, len(edges), got, ok)
+			}
+		}
+	}
+	var none *Hier
+	if got, ok := none.Edge(0); got != (api.Arc{}) || ok {
+		t.Errorf("Edge of a nil hierarchy is %v, %v", got, ok)
+	}
+}

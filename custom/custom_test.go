@@ -452,3 +452,38 @@ func TestP41_Aliasing(t *testing.T) {
 		t.Error("the metric shares memory with an argument or a result")
 	}
 }
+
+func TestP41_1Arc(t *testing.T) {
+	r := rand.New(rand.NewSource(8))
+	for range 2000 {
+		h := random(t, r)
+		g := h.Graph()
+		m := must(t, h, randomWeights(r, len(g.Arcs)))
+		for e, ends := range h.Edges() {
+			for _, up := range []bool{true, false} {
+				from, to, weight := ends.From, ends.To, m.Up(e)
+				if !up {
+					from, to, weight = ends.To, ends.From, m.Down(e)
+				}
+				want := -1
+				for i := len(g.Arcs) - 1; i >= 0; i-- {
+					if g.Arcs[i].From == from && g.Arcs[i].To == to && m.Weights()[i] == weight {
+						want = i
+					}
+				}
+				if got, ok := m.Arc(e, up); ok != (want >= 0) || got != max(want, 0) {
+					t.Fatalf("Arc(%d, %v) is %d, %v, not %d", e, up, got, ok, want)
+				}
+			}
+		}
+		for _, e := range []int{-1, len(h.Edges()), math.MinInt, math.MaxInt} {
+			if got, ok := m.Arc(e, true); got != 0 || ok {
+				t.Fatalf("Arc(%d) is %d, %v", e, got, ok)
+			}
+		}
+	}
+	var none *Metric
+	if got, ok := none.Arc(0, false); got != 0 || ok {
+		t.Errorf("Arc of a nil metric is %d, %v", got, ok)
+	}
+}
