@@ -47,8 +47,11 @@ func point(t api.Tile, p api.Point) [][]api.Point {
 	return [][]api.Point{{q}}
 }
 
-// visit calls see for the tiles of the level in t that can have features, each with the part of the level on which it depends.
-func visit(l api.Level, t api.Tile, see func(t api.Tile, part api.Level)) {
+// visit calls see for the wanted tiles of the level in t that can have features, each with the part of the level on which it depends.
+func visit(l api.Level, t api.Tile, wanted func(t api.Tile) bool, see func(t api.Tile, part api.Level)) {
+	if !wanted(t) {
+		return
+	}
 	b, _ := tilegrid.Box(t)
 	part := meeting(l, b)
 	if len(part.Places)+len(part.Lines)+len(part.Areas) == 0 {
@@ -59,7 +62,7 @@ func visit(l api.Level, t api.Tile, see func(t api.Tile, part api.Level)) {
 		return
 	}
 	for _, child := range tilegrid.Children(t) {
-		visit(part, child, see)
+		visit(part, child, wanted, see)
 	}
 }
 

@@ -487,6 +487,40 @@ func TestP32_2Tiles(t *testing.T) {
 	}
 }
 
+// Blobs has the tiles of Tiles that are wanted, with their bytes.
+func TestP32_2Blobs(t *testing.T) {
+	r := rand.New(rand.NewSource(5))
+	total, fewer := 0, 0
+	for range 300 {
+		l := randomLevel(r, r.Intn(8), r.Intn(2) == 0)
+		chosen := map[api.Tile]bool{}
+		var want []api.Blob
+		for _, x := range Tiles(l) {
+			if r.Intn(3) == 0 {
+				fewer++
+				continue
+			}
+			want = append(want, api.Blob{Tile: x, Bytes: Bytes(l, x)})
+			for ok := true; ok; x, ok = tilegrid.Parent(x) {
+				chosen[x] = true
+			}
+		}
+		if got := Blobs(l, func(x api.Tile) bool { return chosen[x] }); !slices.Equal(got, want) {
+			t.Fatalf("Blobs(%v) of %v is %v, not %v", l, chosen, got, want)
+		}
+		total += len(want)
+	}
+	if total < 1000 || fewer < 500 {
+		t.Errorf("there were only %d tiles, and %d were not wanted", total, fewer)
+	}
+	all := func(api.Tile) bool { return true }
+	for _, zoom := range []int{-1, 8, math.MinInt, math.MaxInt} {
+		if got := Blobs(api.Level{Zoom: zoom, Places: []api.Place{place(5, 0, 0, city)}}, all); len(got) != 0 {
+			t.Errorf("Blobs of zoom %d is %v", zoom, got)
+		}
+	}
+}
+
 // An area that contains all tiles is in each of them.
 func TestP32_2AllTiles(t *testing.T) {
 	last := api.Side - 1
