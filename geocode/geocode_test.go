@@ -493,6 +493,28 @@ func TestP53_3Large(t *testing.T) {
 	}
 }
 
+func TestP53_Copy(t *testing.T) {
+	c := must(t, town())
+	other := c.Copy()
+	sameCoders(t, other, c)
+	if n, err := other.Update(api.Data{}); n != 6 || err != api.OK {
+		t.Errorf("Update of a copy is %d, %d", n, err)
+	}
+	sameCoders(t, c, must(t, town()))
+	sameCoders(t, other, must(t, api.Data{}))
+	if other = c.Copy(); other.Len() != 6 {
+		t.Errorf("a copy has %d named objects", other.Len())
+	}
+	if n, err := c.Update(api.Data{}); n != 6 || err != api.OK {
+		t.Errorf("Update of the original is %d, %d", n, err)
+	}
+	sameCoders(t, other, must(t, town()))
+	var none *Coder
+	if none.Copy() != nil {
+		t.Error("a nil coder has a copy")
+	}
+}
+
 func TestP53_Aliasing(t *testing.T) {
 	d := town()
 	full := append(slices.Clone(d.Nodes), node(99, 1, 1, nil))
